@@ -206,17 +206,7 @@ func TestParseFileOfOtherTexts(t *testing.T) {
 // TestParseFileOfAllShortTexts holds the reader against the patterns of these tests.
 func TestParseFileOfAllShortTexts(t *testing.T) {
 	signs := []string{" ", "     ", "a", "=", "#", "[", "]", "\n", "A", "\xc3"}
-	list := []string{""}
-	for from, n := 0, 0; n < 5; n++ {
-		to := len(list)
-		for _, s := range list[from:to] {
-			for _, sign := range signs {
-				list = append(list, s+sign)
-			}
-		}
-		from = to
-	}
-	for _, s := range list {
+	for _, s := range upTo(5, signs) {
 		rows, want := readRows(s)
 		f, ok := impl.ParseFile(s)
 		if ok != want || len(f.Lines) != len(rows) {

@@ -255,19 +255,25 @@ var (
 	someKeys     = []string{"x", "y", "z"}
 )
 
-// texts returns texts of files: all of up to four of a few lines, and some longer ones up to the limit.
-func texts() []string {
-	few := []string{"\n", "  # n\n", "[a]\n", " [b]  \n", "x = 1\n", "x= 2 \n", " y =\n", "y=3\n"}
-	out := []string{""}
-	for from, n := 0, 0; n < 4; n++ {
-		to := len(out)
-		for _, s := range out[from:to] {
-			for _, l := range few {
-				out = append(out, s+l)
+// upTo returns all texts of up to n of some parts, the shorter ones first.
+func upTo(n int, parts []string) []string {
+	list := []string{""}
+	for from := 0; n > 0; n-- {
+		to := len(list)
+		for _, s := range list[from:to] {
+			for _, p := range parts {
+				list = append(list, s+p)
 			}
 		}
 		from = to
 	}
+	return list
+}
+
+// texts returns texts of files: all of up to four of a few lines, and some longer ones up to the limit.
+func texts() []string {
+	few := []string{"\n", "  # n\n", "[a]\n", " [b]  \n", "x = 1\n", "x= 2 \n", " y =\n", "y=3\n"}
+	out := upTo(4, few)
 	more := append(few, "# n n \n", "    \n", "x =    \n", "    z    =    a = b    \n", "z = "+strings.Repeat("v", 40)+"\n", "[abcdefgh]\n", "abcdefgh=#[]\n")
 	random := rand.New(rand.NewSource(1))
 	for i := 0; i < 400; i++ {
