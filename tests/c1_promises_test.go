@@ -127,8 +127,11 @@ func checkOthers(t *testing.T, f, g impl.File, s, key string) {
 func TestP9WhatIsSetIsGot(t *testing.T) {
 	eachFile(t, func(t *testing.T, f impl.File, rows []row) {
 		eachPlace(func(s, key string) {
-			for _, value := range []string{"", "9"} {
+			for _, value := range []string{"", "9", strings.Repeat("v", 40)} {
 				g, ok := impl.SetValue(f, s, key, value)
+				if !ok && len(f.Lines) < 19 {
+					t.Errorf("SetValue(%q, %q, %q) fails", s, key, value)
+				}
 				if !ok {
 					continue
 				}
@@ -203,6 +206,10 @@ func TestP13DroppedSectionsAreGone(t *testing.T) {
 			}
 			if ok && slices.Contains(impl.SectionsOf(g), s) {
 				t.Errorf("DropSection(%q) leaves %q", s, impl.SectionsOf(g))
+			}
+			others := slices.DeleteFunc(slices.Clone(rows), func(r row) bool { return r.section == s })
+			if ok && impl.FileText(g) != textOf(others) {
+				t.Errorf("DropSection(%q) = %q", s, impl.FileText(g))
 			}
 			eachPlace(func(s2, key string) {
 				was, had := impl.GetValue(f, s2, key)
