@@ -1,6 +1,9 @@
 package impl
 
-import "strings"
+import (
+	"slices"
+	"strings"
+)
 
 // MaxName is the largest number of letters of a name.
 const MaxName = 8
@@ -278,13 +281,11 @@ func SectionsOf(f File) []string {
 	return sections
 }
 
-func addOnce(list []string, s string) []string {
-	for _, t := range list {
-		if t == s {
-			return list
-		}
+func addOnce[T comparable](list []T, x T) []T {
+	if slices.Contains(list, x) {
+		return list
 	}
-	return append(list, s)
+	return append(list, x)
 }
 
 // linesIn returns the indices of the lines of a section of a valid file, its heads included.
